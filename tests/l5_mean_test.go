@@ -641,16 +641,9 @@ func TestMeanOkBroken(t *testing.T) {
 		"waits with another sort":     turnedMean(full, func(m *impl.Mean) { m.Frames[0].Stack[0] = chip(1) }),
 		"waits at the first":          turnedMean(full, func(m *impl.Mean) { m.Frames[1].Pc = 0 }),
 		"waits behind no call":        turnedMean(full, func(m *impl.Mean) { m.Frames[1].Pc = 1 }),
-		"waits behind another call": turnedMean(full, func(m *impl.Mean) {
-			// It waits for a number there, and the next one gives a reference.
-			m.Frames[0].Pc = 4
-		}),
-		"the next gives too much": turnedMean(full, func(m *impl.Mean) {
-			m.Frames[0], m.Frames = m.Frames[1], m.Frames[1:]
-			m.Frames[0].Pc = 2
-			m.Frames[1] = states[0].Frames[0]
-		}),
-		"the last is no call":       turnedMean(full, func(m *impl.Mean) { m.Frames = append(m.Frames, m.Frames[last]) }),
+		// It waits for a number there, and the next one gives a reference.
+		"waits behind another call": turnedMean(full, func(m *impl.Mean) { m.Frames[0].Pc = 4 }),
+		"the next gives too much":   meanOf(t, "|(0 - -)|1:2(7 -)() 0:0(0 -)()||0|0"),
 		"thirty-one told":           turnedMean(full, func(m *impl.Mean) { m.Outs = many(31, 1) }),
 		"asked below 0":             turnedMean(full, func(m *impl.Mean) { m.Asked = -1 }),
 		"asked more than told":      turnedMean(full, func(m *impl.Mean) { m.Asked = 4 }),
