@@ -125,6 +125,37 @@ func valsOf(t *testing.T, text string) []impl.Val {
 	return vals
 }
 
+// thingsOf is the things of a text: of each its type, and what is in it.
+func thingsOf(t *testing.T, text string) []impl.Thing {
+	t.Helper()
+	var things []impl.Thing
+	for _, one := range strings.SplitAfter(strings.TrimSpace(text), ")") {
+		if typ, vals, ok := strings.Cut(one, "("); ok {
+			things = append(things, impl.Thing{Type: numberOf(t, typ), Vals: valsOf(t, strings.Trim(vals, "()"))})
+		}
+	}
+	return things
+}
+
+func numberOf(t *testing.T, text string) int {
+	t.Helper()
+	n, err := strconv.Atoi(strings.TrimSpace(text))
+	if err != nil {
+		t.Fatalf("no number: %q", text)
+	}
+	return n
+}
+
+// numbersOf is the numbers of a text, with spaces between.
+func numbersOf(t *testing.T, text string) []int {
+	t.Helper()
+	var all []int
+	for _, word := range strings.Fields(text) {
+		all = append(all, numberOf(t, word))
+	}
+	return all
+}
+
 // meanText is a state as a text: things (its type and what is in it), what all share, frames (function, instruction,
 // places, what is held), what was told, how much was asked, and the code, with strokes between.
 func meanText(m impl.Mean) string {
@@ -149,19 +180,8 @@ func meanOf(t *testing.T, text string) impl.Mean {
 	if len(parts) != 6 {
 		t.Fatalf("no state: %q", text)
 	}
-	number := func(text string) int {
-		n, err := strconv.Atoi(strings.TrimSpace(text))
-		if err != nil {
-			t.Fatalf("no number: %q", text)
-		}
-		return n
-	}
-	var m impl.Mean
-	for _, one := range strings.SplitAfter(strings.TrimSpace(parts[0]), ")") {
-		if typ, vals, ok := strings.Cut(one, "("); ok {
-			m.Things = append(m.Things, impl.Thing{Type: number(typ), Vals: valsOf(t, strings.Trim(vals, "()"))})
-		}
-	}
+	number := func(text string) int { return numberOf(t, text) }
+	m := impl.Mean{Things: thingsOf(t, parts[0])}
 	m.Glob = valsOf(t, strings.Trim(parts[1], " ()"))
 	frames := strings.SplitAfter(strings.TrimSpace(parts[2]), ")")
 	for at := 0; at+1 < len(frames); at += 2 {
@@ -169,9 +189,7 @@ func meanOf(t *testing.T, text string) impl.Mean {
 		f, pc, _ := strings.Cut(where, ":")
 		m.Frames = append(m.Frames, impl.Frame{Fun: number(f), Pc: number(pc), Locals: valsOf(t, strings.Trim(locals, "()")), Stack: valsOf(t, strings.Trim(frames[at+1], " ()"))})
 	}
-	for _, word := range strings.Fields(parts[3]) {
-		m.Outs = append(m.Outs, number(word))
-	}
+	m.Outs = numbersOf(t, parts[3])
 	m.Asked, m.Code = number(parts[4]), number(parts[5])
 	return m
 }
