@@ -564,11 +564,14 @@ type makeCase struct {
 	to   string
 }
 
-func checkMakeCases(t *testing.T, g [][]impl.Type, cases []makeCase) {
+// heapMaker makes a thing: HeapMake, or one that does likewise.
+type heapMaker func(g [][]impl.Type, h impl.Heap, a int, vals []impl.Val) (impl.Heap, int, bool)
+
+func checkMakeCases(t *testing.T, g [][]impl.Type, making heapMaker, cases []makeCase) {
 	t.Helper()
 	for _, c := range cases {
 		h, want := fromAndTo(t, g, c.from, c.to)
-		got, at, ok := impl.HeapMake(g, h, c.typ, valsOf(t, c.vals))
+		got, at, ok := making(g, h, c.typ, valsOf(t, c.vals))
 		if ok != (c.to != "") || at != c.at || heapText(got) != heapText(want) {
 			t.Errorf("%s: %d of (%s) is at %d: %v, %s", c.from, c.typ, c.vals, at, ok, heapText(got))
 		}
@@ -579,7 +582,7 @@ func checkMakeCases(t *testing.T, g [][]impl.Type, cases []makeCase) {
 }
 
 func TestHeapMake(t *testing.T) {
-	checkMakeCases(t, typesOf(t, heapWorld), []makeCase{
+	checkMakeCases(t, typesOf(t, heapWorld), impl.HeapMake, []makeCase{
 		// Of each type.
 		{"5+9|||", 0, "5 -", 5, "5+9||0(5 -)|"},
 		{"5+9|||", 1, "5 - c7 c8", 5, "5+9||1(5 - c7 c8)|"},
@@ -616,7 +619,7 @@ func TestHeapMake(t *testing.T) {
 		// Room for old things is not room for it.
 		{"50+2|||", 0, "5 -", 0, ""},
 	})
-	checkMakeCases(t, groups(group(box(-1))), []makeCase{
+	checkMakeCases(t, groups(group(box(-1))), impl.HeapMake, []makeCase{
 		{"1+2|||", 0, "", 1, "1+2||0()|"}, {"1+2||0()|", 0, "", 2, "1+2||0() 0()|"}, {"1+2||0() 0()|", 0, "", 0, ""}, {"1+2|||", 0, "-", 0, ""}, {"1+2|||", 1, "", 0, ""},
 	})
 	if got, at, ok := impl.HeapMake(nil, impl.HeapNew(5, 5), 0, nil); ok || at != 0 || heapText(got) != heapText(impl.Heap{}) {

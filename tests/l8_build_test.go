@@ -2,6 +2,7 @@ package tests
 
 import (
 	"math/rand"
+	"slices"
 
 	"loop.example/lairage/impl"
 )
@@ -121,4 +122,41 @@ func knottedHeap(r *rand.Rand, g [][]impl.Type) impl.Heap {
 	}
 	r.Shuffle(len(h.Log), func(i, j int) { h.Log[i], h.Log[j] = h.Log[j], h.Log[i] })
 	return h
+}
+
+// twins is two heaps that are gone through at once: the things of both by where they begin, and which of one was met as
+// which of the other, both ways.
+type twins struct {
+	one, two map[int]impl.Thing
+	now, was map[int]int
+}
+
+func twinsOf(g [][]impl.Type, one impl.Heap, two impl.Heap) twins {
+	byPlace := func(h impl.Heap) map[int]impl.Thing {
+		all, _ := plainHeapPlaced(g, h)
+		there := map[int]impl.Thing{}
+		for _, one := range all {
+			there[one.at] = one.thing
+		}
+		return there
+	}
+	return twins{one: byPlace(one), two: byPlace(two), now: map[int]int{}, was: map[int]int{}}
+}
+
+// same says whether values of both heaps are the same, and all that is reached from there is, thing by thing.
+func (w twins) same(one []impl.Val, two []impl.Val) bool {
+	return slices.EqualFunc(one, two, func(v impl.Val, to impl.Val) bool {
+		if v.Kind != to.Kind || v.Kind != impl.ValThing {
+			return v == to
+		}
+		at, met := w.now[v.N]
+		from, used := w.was[to.N]
+		if met || used {
+			return met && used && at == to.N && from == v.N
+		}
+		w.now[v.N], w.was[to.N] = to.N, v.N
+		a, there := w.one[v.N]
+		b, also := w.two[to.N]
+		return there && also && a.Type == b.Type && w.same(a.Vals, b.Vals)
+	})
 }

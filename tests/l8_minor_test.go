@@ -342,45 +342,18 @@ func checkMinor(t *testing.T, g [][]impl.Type, h impl.Heap, roots []impl.Val) (i
 // thing by thing, an old thing is where it was, and nothing else is there.
 func checkAllThere(t *testing.T, g [][]impl.Type, h impl.Heap, roots []impl.Val, swept impl.Heap, moved []impl.Val) {
 	t.Helper()
-	now, was := map[int]int{}, map[int]int{}
-	var walk func(a []impl.Val, b []impl.Val)
-	walk = func(a []impl.Val, b []impl.Val) {
-		if len(a) != len(b) {
-			t.Fatalf("%v: %s came of %s: %s is %s", g, heapText(swept), heapText(h), valsText(a), valsText(b))
-		}
-		for i, v := range a {
-			to := b[i]
-			if v.Kind != to.Kind || v.Kind != impl.ValThing && v.N != to.N || v.Kind == impl.ValThing && v.N < h.Old && v.N != to.N {
-				t.Fatalf("%v: %s came of %s: %s is %s", g, heapText(swept), heapText(h), valText(v), valText(to))
-			}
-			if v.Kind != impl.ValThing {
-				continue
-			}
-			at, met := now[v.N]
-			from, used := was[to.N]
-			if met != used || met && (at != to.N || from != v.N) {
-				t.Fatalf("%v: %s came of %s: %s is %s and also %d", g, heapText(swept), heapText(h), valText(v), valText(to), at)
-			}
-			if met {
-				continue
-			}
-			now[v.N], was[to.N] = to.N, v.N
-			one, ok := impl.HeapGet(g, h, v.N)
-			other, fine := impl.HeapGet(g, swept, to.N)
-			if !ok || !fine || one.Type != other.Type {
-				t.Fatalf("%v: %s came of %s: %s is %s", g, heapText(swept), heapText(h), valText(v), valText(to))
-			}
-			walk(one.Vals, other.Vals)
-		}
-	}
-	walk(roots, moved)
-	for _, at := range impl.HeapThings(g, h) {
+	both := twinsOf(g, h, swept)
+	same := both.same(roots, moved)
+	for at := range both.one {
 		if at < h.Old {
-			walk(values(thing(at)), values(thing(at)))
+			same = same && both.same(values(thing(at)), values(thing(at)))
 		}
 	}
-	if got := len(impl.HeapThings(g, swept)); got != len(was) {
-		t.Fatalf("%v: %s came of %s: %d things, not %d", g, heapText(swept), heapText(h), got, len(was))
+	for was, now := range both.now {
+		same = same && (was >= h.Old || now == was)
+	}
+	if !same || len(both.now) != len(both.two) {
+		t.Fatalf("%v: %s, %s came of %s, %s: %v", g, heapText(swept), valsText(moved), heapText(h), valsText(roots), both.now)
 	}
 }
 
