@@ -233,6 +233,8 @@ func checkStep(t *testing.T, p impl.Prog, host []int, from impl.Mean, want strin
 	if !reflect.DeepEqual(spreadMean(given), whole) || !reflect.DeepEqual(spreadProg(prog), wholeProg) || !slices.Equal(own[:cap(own)], append(slices.Clone(host), 66, 66)) {
 		t.Errorf("from %s: what was handed in is turned", meanText(from))
 	}
+	// An engine does the same, whatever heap the things are on.
+	checkLaidSteps(t, p, host, from)
 }
 
 // checkStepCase holds one case against the document.
